@@ -1,0 +1,54 @@
+package ratio
+
+import (
+	"strings"
+
+	"tontine/api"
+	"tontine/whole"
+)
+
+// Parse is the exact number that s says (1.5).
+func Parse(s string) (api.Ratio, api.Errno) {
+	if len(s) > api.MaxText {
+		return api.Ratio{}, api.ErrLong
+	}
+	f, e := parseText(s)
+	if e != api.OK {
+		return api.Ratio{}, e
+	}
+	return answer(f)
+}
+
+func parseText(s string) (fraction, api.Errno) {
+	if above, below, ok := strings.Cut(s, "/"); ok {
+		return parseQuotient(above, below)
+	}
+	if above, behind, ok := strings.Cut(s, "."); ok {
+		return parseDecimal(above, behind)
+	}
+	return parseQuotient(s, "1")
+}
+
+func parseQuotient(above, below string) (fraction, api.Errno) {
+	if !isWhole(above) || !isNatural(below) {
+		return fraction{}, api.ErrForm
+	}
+	if below == "0" {
+		return fraction{}, api.ErrZero
+	}
+	neg, digits := cutSign(above)
+	return lowest(neg, whole.Parse(digits), whole.Parse(below)), api.OK
+}
+
+func parseDecimal(above, behind string) (fraction, api.Errno) {
+	neg, digits := cutSign(above)
+	if !isNatural(digits) || !isDigits(behind) {
+		return fraction{}, api.ErrForm
+	}
+	behind = strings.TrimRight(behind, "0")
+	f := lowest(neg, whole.Parse(digits+behind), whole.Of(10).Pow(len(behind)))
+	if neg && f.num.IsZero() {
+		return fraction{}, api.ErrForm
+	}
+	return f, api.OK
+}

@@ -1,0 +1,91 @@
+package ratio
+
+import (
+	"tontine/api"
+	"tontine/whole"
+)
+
+// Terms is the continued fraction of a (1.6).
+func Terms(a api.Ratio) ([]string, api.Errno) {
+	f, e := read(a)
+	if e != api.OK {
+		return nil, e
+	}
+	first, rest := floor(f)
+	terms := []string{withSign(first.neg, first.num.Text())}
+	x, y := rest.den, rest.num
+	for !y.IsZero() {
+		if len(terms) == api.MaxItems {
+			return nil, api.ErrLong
+		}
+		term, left := x.DivMod(y)
+		terms = append(terms, term.Text())
+		x, y = y, left
+	}
+	return terms, api.OK
+}
+
+// FromTerms is the fraction whose continued fraction l is (1.6).
+func FromTerms(l []string) (api.Ratio, api.Errno) {
+	if len(l) > api.MaxItems {
+		return api.Ratio{}, api.ErrLong
+	}
+	if !areTerms(l) {
+		return api.Ratio{}, api.ErrForm
+	}
+	neg, digits := cutSign(l[0])
+	rest, ok := belowOne(l[1:])
+	// Of a first term with one digit too many the rest may still make a right number: -10 to the MaxDigits, and 1.
+	if !ok || len(digits) > api.MaxDigits+1 {
+		return api.Ratio{}, api.ErrLong
+	}
+	return answer(plus(wholeFraction(neg, whole.Parse(digits)), rest))
+}
+
+func areTerms(l []string) bool {
+	for i, s := range l {
+		if i == 0 && !isWhole(s) || i > 0 && (!isNatural(s) || s == "0") {
+			return false
+		}
+	}
+	return len(l) > 0
+}
+
+// belowOne is what the terms behind the first one come to: above nought, and 1 at most; nought of none. It gives up as soon as the denominator is too long, since that never falls again, and is not below any term.
+func belowOne(terms []string) (fraction, bool) {
+	c := newConvergent().next(whole.Nat{})
+	for _, s := range terms {
+		if len(s) > api.MaxDigits {
+			return fraction{}, false
+		}
+		c = c.next(whole.Parse(s))
+		if c.den.BitLen() > mostBits {
+			return fraction{}, false
+		}
+	}
+	return c.fraction(), true
+}
+
+// convergent is what the first terms of a continued fraction come to, and beside it (numAgo, denAgo) what came of one term less.
+type convergent struct {
+	num, den, numAgo, denAgo whole.Nat
+}
+
+// newConvergent is that of no term.
+func newConvergent() convergent {
+	return convergent{num: whole.Of(1), denAgo: whole.Of(1)}
+}
+
+func (c convergent) next(term whole.Nat) convergent {
+	return convergent{
+		num:    term.Mul(c.num).Add(c.numAgo),
+		den:    term.Mul(c.den).Add(c.denAgo),
+		numAgo: c.num,
+		denAgo: c.den,
+	}
+}
+
+// fraction is always in lowest terms: num denAgo - den numAgo is 1 or -1.
+func (c convergent) fraction() fraction {
+	return fraction{false, c.num, c.den}
+}
