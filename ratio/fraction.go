@@ -2,11 +2,9 @@ package ratio
 
 import (
 	"tontine/api"
+	"tontine/exact"
 	"tontine/whole"
 )
-
-// mostBits: 10 to the MaxDigits is below 2 to the mostBits, so what has more binary digits has too many decimal ones.
-const mostBits = api.MaxDigits*10/3 + 1
 
 // fraction is an exact number that was taken apart: num by den, below nought if neg (nought never is).
 type fraction struct {
@@ -14,20 +12,10 @@ type fraction struct {
 	num, den whole.Nat
 }
 
-// read takes a right exact number apart, or answers what is wrong with it, in the order of R1.
+// read takes a right exact number apart, or answers what is wrong with it.
 func read(a api.Ratio) (fraction, api.Errno) {
-	if !isWhole(a.Num) || !isNatural(a.Den) || a.Den == "0" || a.Num == "0" && a.Den != "1" {
-		return fraction{}, api.ErrShape
-	}
-	neg, digits := cutSign(a.Num)
-	if len(digits) > api.MaxDigits || len(a.Den) > api.MaxDigits {
-		return fraction{}, api.ErrLong
-	}
-	f := fraction{neg, whole.Parse(digits), whole.Parse(a.Den)}
-	if !f.num.GCD(f.den).IsOne() {
-		return fraction{}, api.ErrShape
-	}
-	return f, api.OK
+	neg, num, den, e := exact.Read(a)
+	return fraction{neg, num, den}, e
 }
 
 func readTwo(a, b api.Ratio) (fraction, fraction, api.Errno) {
@@ -42,16 +30,9 @@ func readTwo(a, b api.Ratio) (fraction, fraction, api.Errno) {
 	return f, g, api.OK
 }
 
-// answer writes a fraction in lowest terms, unless it is too long (R2).
+// answer writes a fraction in lowest terms, unless it is too long.
 func answer(f fraction) (api.Ratio, api.Errno) {
-	if f.num.BitLen() > mostBits || f.den.BitLen() > mostBits {
-		return api.Ratio{}, api.ErrLong
-	}
-	num, den := f.num.Text(), f.den.Text()
-	if len(num) > api.MaxDigits || len(den) > api.MaxDigits {
-		return api.Ratio{}, api.ErrLong
-	}
-	return api.Ratio{Num: withSign(f.neg, num), Den: den}, api.OK
+	return exact.Write(f.neg, f.num, f.den)
 }
 
 // lowest is num by den, in lowest terms.

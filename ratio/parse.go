@@ -4,6 +4,7 @@ import (
 	"strings"
 
 	"tontine/api"
+	"tontine/exact"
 	"tontine/whole"
 )
 
@@ -30,19 +31,19 @@ func parseText(s string) (fraction, api.Errno) {
 }
 
 func parseQuotient(above, below string) (fraction, api.Errno) {
-	if !isWhole(above) || !isNatural(below) {
+	if !exact.IsWhole(above) || !exact.IsNatural(below) {
 		return fraction{}, api.ErrForm
 	}
 	if below == "0" {
 		return fraction{}, api.ErrZero
 	}
-	neg, digits := cutSign(above)
+	neg, digits := exact.CutSign(above)
 	return lowest(neg, whole.Parse(digits), whole.Parse(below)), api.OK
 }
 
 func parseDecimal(above, behind string) (fraction, api.Errno) {
-	neg, digits := cutSign(above)
-	if !isNatural(digits) || !isDigits(behind) {
+	neg, digits := exact.CutSign(above)
+	if !exact.IsNatural(digits) || !exact.IsDigits(behind) {
 		return fraction{}, api.ErrForm
 	}
 	behind = strings.TrimRight(behind, "0")

@@ -5,6 +5,7 @@ import (
 	"strings"
 
 	"tontine/api"
+	"tontine/exact"
 	"tontine/whole"
 )
 
@@ -106,7 +107,7 @@ func Pow(a api.Ratio, n int) (api.Ratio, api.Errno) {
 
 // powerIsLong spares the work on powers that are far too long: x is not below 2 to the BitLen - 1.
 func powerIsLong(x whole.Nat, n int) bool {
-	return (x.BitLen()-1)*n > mostBits
+	return (x.BitLen()-1)*n > exact.MostBits
 }
 
 // Cmp is -1, 0 or 1: a is below b, is b, is above b (1.2).

@@ -4,6 +4,7 @@ import (
 	"strings"
 
 	"tontine/api"
+	"tontine/exact"
 	"tontine/whole"
 )
 
@@ -13,7 +14,7 @@ func Round(a, step api.Ratio, mode int) (api.Ratio, api.Errno) {
 	if e != api.OK {
 		return api.Ratio{}, e
 	}
-	if s.sign() <= 0 || !isWay(mode) {
+	if s.sign() <= 0 || !exact.IsWay(mode) {
 		return api.Ratio{}, api.ErrRange
 	}
 	n := rounded(f.neg, f.num.Mul(s.den), f.den.Mul(s.num), mode)
@@ -26,7 +27,7 @@ func Decimal(a api.Ratio, places, mode int) (string, api.Errno) {
 	if e != api.OK {
 		return "", e
 	}
-	if places < 0 || places > MaxPlaces || !isWay(mode) {
+	if places < 0 || places > MaxPlaces || !exact.IsWay(mode) {
 		return "", api.ErrRange
 	}
 	n := rounded(f.neg, f.num.Mul(whole.Of(10).Pow(places)), f.den, mode)
@@ -38,39 +39,18 @@ func Decimal(a api.Ratio, places, mode int) (string, api.Errno) {
 		return "", api.ErrLong
 	}
 	point := len(digits) - places
-	text := withSign(f.neg && !n.IsZero(), digits[:point])
+	text := exact.WithSign(f.neg && !n.IsZero(), digits[:point])
 	if places > 0 {
 		text += "." + digits[point:]
 	}
 	return text, api.OK
 }
 
-func isWay(mode int) bool {
-	return mode >= api.RoundFloor && mode <= api.RoundHalfEven
-}
-
 // rounded is the size of the whole number that num by den, below nought if neg, becomes by the way.
 func rounded(neg bool, num, den whole.Nat, mode int) whole.Nat {
 	n, rest := num.DivMod(den)
-	if rest.IsZero() || !isAway(neg, n.IsOdd(), rest.ShiftLeft(1).Cmp(den), mode) {
+	if rest.IsZero() || !exact.IsAway(neg, n.IsOdd(), rest.ShiftLeft(1).Cmp(den), mode) {
 		return n
 	}
 	return n.Add(whole.Of(1))
-}
-
-// isAway tells whether a number that is not whole goes away from nought: whether it is below nought, its whole part odd, and what is left less than a half (-1), a half (0), or more (1).
-func isAway(neg, odd bool, half, mode int) bool {
-	switch mode {
-	case api.RoundFloor:
-		return neg
-	case api.RoundCeil:
-		return !neg
-	case api.RoundUp:
-		return true
-	case api.RoundHalfUp:
-		return half >= 0
-	case api.RoundHalfEven:
-		return half > 0 || half == 0 && odd
-	}
-	return false
 }

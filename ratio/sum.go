@@ -4,11 +4,12 @@ import (
 	"slices"
 
 	"tontine/api"
+	"tontine/exact"
 	"tontine/whole"
 )
 
 // wayBits is how long a denominator may grow while a sum is made plainly.
-const wayBits = 4 * mostBits
+const wayBits = 4 * exact.MostBits
 
 // Sum is the sum of all (1.2).
 func Sum(l []api.Ratio) (api.Ratio, api.Errno) {
@@ -39,7 +40,7 @@ func total(parts ...fraction) (fraction, bool) {
 		return sum, true
 	}
 	sum := simplest(bounds(parts...))
-	if sum.num.BitLen() > mostBits || sum.den.BitLen() > mostBits {
+	if sum.num.BitLen() > exact.MostBits || sum.den.BitLen() > exact.MostBits {
 		return fraction{}, false
 	}
 	return sum, compare(sum, addRoughly(parts...)) == 0
@@ -66,8 +67,8 @@ func addUp(parts ...fraction) (fraction, bool) {
 	return sum, sum.den.BitLen() <= wayBits
 }
 
-// boundPlaces is how many binary places the bounds of a sum have: two fractions with at most mostBits bits below are 2 to the -2 mostBits apart at least, and each part makes the bounds one unit of the last place wider.
-const boundPlaces = 2*mostBits + 64
+// boundPlaces is how many binary places the bounds of a sum have: two fractions with at most exact.MostBits bits below are 2 to the -2 exact.MostBits apart at least, and each part makes the bounds one unit of the last place wider.
+const boundPlaces = 2*exact.MostBits + 64
 
 // bounds are two fractions which the sum is not below and not above, so near to one another that at most one fraction that is short enough lies between them.
 func bounds(parts ...fraction) (fraction, fraction) {

@@ -2,6 +2,7 @@ package ratio
 
 import (
 	"tontine/api"
+	"tontine/exact"
 	"tontine/whole"
 )
 
@@ -12,7 +13,7 @@ func Terms(a api.Ratio) ([]string, api.Errno) {
 		return nil, e
 	}
 	first, rest := floor(f)
-	terms := []string{withSign(first.neg, first.num.Text())}
+	terms := []string{exact.WithSign(first.neg, first.num.Text())}
 	x, y := rest.den, rest.num
 	for !y.IsZero() {
 		if len(terms) == api.MaxItems {
@@ -33,7 +34,7 @@ func FromTerms(l []string) (api.Ratio, api.Errno) {
 	if !areTerms(l) {
 		return api.Ratio{}, api.ErrForm
 	}
-	neg, digits := cutSign(l[0])
+	neg, digits := exact.CutSign(l[0])
 	rest, ok := belowOne(l[1:])
 	// Of a first term with one digit too many the rest may still make a right number: -10 to the MaxDigits, and 1.
 	if !ok || len(digits) > api.MaxDigits+1 {
@@ -44,7 +45,7 @@ func FromTerms(l []string) (api.Ratio, api.Errno) {
 
 func areTerms(l []string) bool {
 	for i, s := range l {
-		if i == 0 && !isWhole(s) || i > 0 && (!isNatural(s) || s == "0") {
+		if i == 0 && !exact.IsWhole(s) || i > 0 && (!exact.IsNatural(s) || s == "0") {
 			return false
 		}
 	}
@@ -59,7 +60,7 @@ func belowOne(terms []string) (fraction, bool) {
 			return fraction{}, false
 		}
 		c = c.next(whole.Parse(s))
-		if c.den.BitLen() > mostBits {
+		if c.den.BitLen() > exact.MostBits {
 			return fraction{}, false
 		}
 	}

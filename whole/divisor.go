@@ -25,21 +25,13 @@ func (a Nat) GCD(b Nat) Nat {
 		return a
 	}
 	_, rest := a.DivMod(b)
-	return Of(commonWord(b.words[0], rest.lowest()))
+	return Of(commonWord(b.words[0], rest.Word()))
 }
 
 func (a Nat) copied() Nat {
 	words := make([]uint64, len(a.words))
 	copy(words, a.words)
 	return Nat{words}
-}
-
-// lowest is the lowest word.
-func (a Nat) lowest() uint64 {
-	if a.IsZero() {
-		return 0
-	}
-	return a.words[0]
 }
 
 func commonWord(x, y uint64) uint64 {

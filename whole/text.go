@@ -32,7 +32,7 @@ func Parse(digits string) Nat {
 // Text is a in decimal digits, without a 0 ahead (0 is 0).
 func (a Nat) Text() string {
 	if len(a.words) <= 1 {
-		return strconv.FormatUint(a.lowest(), 10)
+		return strconv.FormatUint(a.Word(), 10)
 	}
 	digits := a.appendDigits(nil, ladder(a))
 	return strings.TrimLeft(string(digits), "0")

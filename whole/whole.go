@@ -34,6 +34,14 @@ func (a Nat) IsOne() bool { return len(a.words) == 1 && a.words[0] == 1 }
 // IsOdd tells whether a is odd.
 func (a Nat) IsOdd() bool { return len(a.words) > 0 && a.words[0]&1 == 1 }
 
+// Word is a's lowest word: a itself, if a is below 2 to the 64.
+func (a Nat) Word() uint64 {
+	if a.IsZero() {
+		return 0
+	}
+	return a.words[0]
+}
+
 // BitLen is how many binary digits a has; 0 has none.
 func (a Nat) BitLen() int {
 	n := len(a.words)
@@ -41,6 +49,15 @@ func (a Nat) BitLen() int {
 		return 0
 	}
 	return n*wordBits - bits.LeadingZeros64(a.words[n-1])
+}
+
+// TrailingZeros is how often 2 divides a, which is not 0.
+func (a Nat) TrailingZeros() int {
+	n := 0
+	for a.words[n] == 0 {
+		n++
+	}
+	return n*wordBits + bits.TrailingZeros64(a.words[n])
 }
 
 // Cmp is -1, 0 or 1: a is below b, is b, is above b.
@@ -120,4 +137,14 @@ func shiftInto(shifted, words []uint64, n int) {
 		low = w >> (wordBits - n)
 	}
 	shifted[len(words)] = low
+}
+
+// ShiftRight is a by 2 to the n, rounded down.
+func (a Nat) ShiftRight(n int) Nat {
+	if n >= a.BitLen() {
+		return Nat{}
+	}
+	shifted := Nat{a.words[n/wordBits:]}.copied()
+	shiftDown(shifted.words, n%wordBits)
+	return trim(shifted.words)
 }

@@ -133,9 +133,21 @@ func TestGCDOfSmallQuotients(t *testing.T) {
 
 func TestShiftPowBits(t *testing.T) {
 	pairs(func(a, b Nat) {
-		n := len(b.words)*7 + 1
+		n, x := len(b.words)*7+1, toBig(a)
 		same(t, "ShiftLeft", a.ShiftLeft(n), new(big.Int).Lsh(toBig(a), uint(n)))
 		same(t, "ShiftLeft by words", a.ShiftLeft(128), new(big.Int).Lsh(toBig(a), 128))
+		for _, k := range []int{0, 1, n, 64, 128, a.BitLen() - 1, a.BitLen(), a.BitLen() + 70} {
+			if k >= 0 {
+				same(t, "ShiftRight", a.ShiftRight(k), new(big.Int).Rsh(toBig(a), uint(k)))
+			}
+		}
+		same(t, "what was handed in", a, x)
+		if low := new(big.Int).And(toBig(a), new(big.Int).SetUint64(1<<64-1)); a.Word() != low.Uint64() {
+			t.Fatalf("the lowest word of %x: %x", toBig(a), a.Word())
+		}
+		if !a.IsZero() && a.ShiftLeft(n).TrailingZeros() != n+int(toBig(a).TrailingZeroBits()) {
+			t.Fatalf("noughts behind %x", toBig(a))
+		}
 		if a.BitLen() != toBig(a).BitLen() || a.IsOdd() != (toBig(a).Bit(0) == 1) {
 			t.Fatalf("bits of %x", toBig(a))
 		}

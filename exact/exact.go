@@ -1,0 +1,38 @@
+// Package exact is what the layers share that are given exact numbers, or answer them: how these are read and written, and the six ways to round.
+package exact
+
+import (
+	"tontine/api"
+	"tontine/whole"
+)
+
+// MostBits: 10 to the MaxDigits is below 2 to the MostBits, so what has more binary digits has too many decimal ones.
+const MostBits = api.MaxDigits*10/3 + 1
+
+// Read takes a right exact number apart: whether it is below nought, the size of Num, and Den; or it answers what is wrong with it, in the order of R1.
+func Read(a api.Ratio) (bool, whole.Nat, whole.Nat, api.Errno) {
+	if !IsWhole(a.Num) || !IsNatural(a.Den) || a.Den == "0" || a.Num == "0" && a.Den != "1" {
+		return false, whole.Nat{}, whole.Nat{}, api.ErrShape
+	}
+	neg, digits := CutSign(a.Num)
+	if len(digits) > api.MaxDigits || len(a.Den) > api.MaxDigits {
+		return false, whole.Nat{}, whole.Nat{}, api.ErrLong
+	}
+	num, den := whole.Parse(digits), whole.Parse(a.Den)
+	if !num.GCD(den).IsOne() {
+		return false, whole.Nat{}, whole.Nat{}, api.ErrShape
+	}
+	return neg, num, den, api.OK
+}
+
+// Write is num by den, which are in lowest terms, below nought if neg (nought never is), unless that is too long (R2).
+func Write(neg bool, num, den whole.Nat) (api.Ratio, api.Errno) {
+	if num.BitLen() > MostBits || den.BitLen() > MostBits {
+		return api.Ratio{}, api.ErrLong
+	}
+	above, below := num.Text(), den.Text()
+	if len(above) > api.MaxDigits || len(below) > api.MaxDigits {
+		return api.Ratio{}, api.ErrLong
+	}
+	return api.Ratio{Num: WithSign(neg, above), Den: below}, api.OK
+}
