@@ -87,9 +87,6 @@ func (d decimal) number(neg bool) api.Ratio {
 	} else {
 		den = whole.Of(10).Pow(-tens)
 	}
-	common := num.GCD(den)
-	num, _ = num.DivMod(common)
-	den, _ = den.DivMod(common)
-	r, _ := exact.Write(neg, num, den) // with farthest and mostDigits it is never too long
+	r, _ := exact.WriteLowest(neg, num, den) // with farthest and mostDigits it is never too long
 	return r
 }

@@ -36,3 +36,24 @@ func Write(neg bool, num, den whole.Nat) (api.Ratio, api.Errno) {
 	}
 	return api.Ratio{Num: WithSign(neg, above), Den: below}, api.OK
 }
+
+// WriteLowest is num by den, which may have a common divisor, below nought if neg, unless that is too long (R2).
+func WriteLowest(neg bool, num, den whole.Nat) (api.Ratio, api.Errno) {
+	common := num.GCD(den)
+	num, _ = num.DivMod(common)
+	den, _ = den.DivMod(common)
+	return Write(neg && !num.IsZero(), num, den)
+}
+
+// WriteScaled is n times 2^exp, below nought if neg, unless that is too long (R2).
+func WriteScaled(neg bool, n whole.Nat, exp int) (api.Ratio, api.Errno) {
+	one := whole.Of(1)
+	switch {
+	case n.IsZero():
+		return Write(false, n, one)
+	case exp >= 0:
+		return Write(neg, n.ShiftLeft(exp), one)
+	}
+	common := min(n.TrailingZeros(), -exp)
+	return Write(neg, n.ShiftRight(common), one.ShiftLeft(-exp-common))
+}

@@ -70,6 +70,51 @@ func TestWrite(t *testing.T) {
 	}
 }
 
+// What has a common divisor is written without it; nought is 0 by 1, and has no sign.
+func TestWriteLowest(t *testing.T) {
+	for _, c := range []struct {
+		neg      bool
+		num, den uint64
+		wanted   api.Ratio
+	}{
+		{false, 6, 4, api.Ratio{Num: "3", Den: "2"}}, {true, 6, 4, api.Ratio{Num: "-3", Den: "2"}}, {false, 7, 7, api.Ratio{Num: "1", Den: "1"}}, {true, 5, 3, api.Ratio{Num: "-5", Den: "3"}},
+		{false, 0, 9, api.Ratio{Num: "0", Den: "1"}}, {true, 0, 1, api.Ratio{Num: "0", Den: "1"}}, {false, 12, 1, api.Ratio{Num: "12", Den: "1"}}, {true, 1, 12, api.Ratio{Num: "-1", Den: "12"}},
+	} {
+		if a, e := WriteLowest(c.neg, whole.Of(c.num), whole.Of(c.den)); a != c.wanted || e != api.OK {
+			t.Errorf("%d by %d: %v, %v", c.num, c.den, a, e)
+		}
+	}
+	long := whole.Of(10).Pow(api.MaxDigits)
+	if a, e := WriteLowest(false, long, whole.Of(3)); e != api.ErrLong || a != (api.Ratio{}) {
+		t.Errorf("too long: %v", e)
+	}
+	if a, e := WriteLowest(false, long, long.Mul(whole.Of(3))); e != api.OK || a != (api.Ratio{Num: "1", Den: "3"}) {
+		t.Errorf("long, but for what is common: %v, %v", a, e)
+	}
+}
+
+// What is scaled by a power of two, up and down, is written in lowest terms.
+func TestWriteScaled(t *testing.T) {
+	for _, c := range []struct {
+		neg    bool
+		n      uint64
+		exp    int
+		wanted api.Ratio
+	}{
+		{false, 3, 2, api.Ratio{Num: "12", Den: "1"}}, {true, 3, 0, api.Ratio{Num: "-3", Den: "1"}}, {false, 3, -2, api.Ratio{Num: "3", Den: "4"}}, {true, 12, -1, api.Ratio{Num: "-6", Den: "1"}},
+		{false, 12, -2, api.Ratio{Num: "3", Den: "1"}}, {true, 12, -5, api.Ratio{Num: "-3", Den: "8"}}, {true, 0, -5, api.Ratio{Num: "0", Den: "1"}}, {false, 0, 5, api.Ratio{Num: "0", Den: "1"}},
+	} {
+		if a, e := WriteScaled(c.neg, whole.Of(c.n), c.exp); a != c.wanted || e != api.OK {
+			t.Errorf("%d times 2^%d: %v, %v", c.n, c.exp, a, e)
+		}
+	}
+	for _, exp := range []int{MostBits, -MostBits} {
+		if a, e := WriteScaled(true, whole.Of(1), exp); e != api.ErrLong || a != (api.Ratio{}) {
+			t.Errorf("too long: %v", e)
+		}
+	}
+}
+
 func TestWays(t *testing.T) {
 	for way := -1; way <= 8; way++ {
 		if IsWay(way) != (way >= 1 && way <= 6) {

@@ -4,6 +4,7 @@ import (
 	"math"
 
 	"tontine/api"
+	"tontine/exact"
 	"tontine/whole"
 )
 
@@ -46,7 +47,7 @@ func lostOf(a, b, c api.Parts) (api.Ratio, api.Errno) {
 	product := whole.Of(a.Mant).Mul(whole.Of(b.Mant)).ShiftLeft(a.Exp + b.Exp - exp)
 	rounded := whole.Of(c.Mant).ShiftLeft(c.Exp - exp)
 	if product.Cmp(rounded) < 0 {
-		return scaled(!neg, rounded.Sub(product), exp)
+		return exact.WriteScaled(!neg, rounded.Sub(product), exp)
 	}
-	return scaled(neg, product.Sub(rounded), exp)
+	return exact.WriteScaled(neg, product.Sub(rounded), exp)
 }

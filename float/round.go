@@ -23,20 +23,7 @@ func exactOf(p api.Parts) (api.Ratio, api.Errno) {
 	if !isFinite(p) {
 		return api.Ratio{}, api.ErrNotFinite
 	}
-	return scaled(p.Neg, whole.Of(p.Mant), p.Exp)
-}
-
-// scaled is n times 2^exp, below nought if neg.
-func scaled(neg bool, n whole.Nat, exp int) (api.Ratio, api.Errno) {
-	one := whole.Of(1)
-	switch {
-	case n.IsZero():
-		return exact.Write(false, n, one)
-	case exp >= 0:
-		return exact.Write(neg, n.ShiftLeft(exp), one)
-	}
-	common := min(n.TrailingZeros(), -exp)
-	return exact.Write(neg, n.ShiftRight(common), one.ShiftLeft(-exp-common))
+	return exact.WriteScaled(p.Neg, whole.Of(p.Mant), p.Exp)
 }
 
 // Round is the float that r comes to (2.2).

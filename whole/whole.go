@@ -1,7 +1,10 @@
 // Package whole reckons with whole numbers from nought on, of any size: what the exact layers are made of.
 package whole
 
-import "math/bits"
+import (
+	"math/bits"
+	"slices"
+)
 
 const wordBits = 64
 
@@ -15,6 +18,16 @@ type Nat struct {
 // Of is the number x.
 func Of(x uint64) Nat {
 	return trim([]uint64{x})
+}
+
+// OfWords is the number of these words, the lowest one first.
+func OfWords(words []uint64) Nat {
+	return trim(slices.Clone(words))
+}
+
+// Words are a's words, the lowest one first, as many as it needs.
+func (a Nat) Words() []uint64 {
+	return slices.Clone(a.words)
 }
 
 func trim(words []uint64) Nat {

@@ -161,6 +161,25 @@ func TestShiftPowBits(t *testing.T) {
 	}
 }
 
+func TestWords(t *testing.T) {
+	pairs(func(a, b Nat) {
+		x := toBig(a)
+		words := a.Words()
+		room := append(append([]uint64{}, words...), 0, 0)
+		c := OfWords(room)
+		same(t, "OfWords of Words", c, x)
+		for i := range words {
+			words[i], room[i] = 0, 0
+		}
+		same(t, "whose words were taken", a, x)
+		same(t, "what was made of words that changed", c, x)
+	})
+	if !OfWords(nil).IsZero() || !OfWords([]uint64{0, 0}).IsZero() || len(Of(0).Words()) != 0 {
+		t.Error("nought has words")
+	}
+	same(t, "OfWords", OfWords([]uint64{5, 1}), new(big.Int).Add(new(big.Int).Lsh(big.NewInt(1), 64), big.NewInt(5)))
+}
+
 func TestTexts(t *testing.T) {
 	check := func(x *big.Int) {
 		t.Helper()
