@@ -5,6 +5,7 @@ import (
 
 	"tontine/api"
 	"tontine/exact"
+	"tontine/tally"
 	"tontine/whole"
 )
 
@@ -99,8 +100,8 @@ func Bound(l []float64, steps int) (api.Ratio, api.Errno) {
 	case steps < 0 || steps > 1<<52:
 		return api.Ratio{}, api.ErrRange
 	}
-	_, sizes := a.number.split()
+	_, sizes := a.number.Split()
 	n := uint64(steps)
 	// With u = 2^-53, n u by 1 - n u is n by 2^53 - n.
-	return exact.WriteLowest(false, sizes.Mul(whole.Of(n)), whole.Of(1<<53-n).ShiftLeft(places))
+	return exact.WriteLowest(false, sizes.Mul(whole.Of(n)), whole.Of(1<<53-n).ShiftLeft(tally.Places))
 }

@@ -1,5 +1,10 @@
 package sum
 
+import (
+	"tontine/api"
+	"tontine/tally"
+)
+
 // The marks, in the order of their letters: whether there is a term
 const (
 	isNone   = iota // that is none
@@ -16,6 +21,19 @@ const letters = "npmab"
 const noMark = '-'
 
 type marks [markCount]bool
+
+// marksOf is what a sum of this term alone has.
+func marksOf(t tally.Term) marks {
+	switch t.Kind {
+	case api.FloatNone:
+		return marks{isNone: true, notMinus: true, notPlus: true}
+	case api.FloatInfinite:
+		return marks{isAbove: !t.Neg, isBelow: t.Neg, notMinus: true, notPlus: true}
+	case api.FloatNought:
+		return marks{notMinus: !t.Neg, notPlus: t.Neg}
+	}
+	return marks{notMinus: true, notPlus: true}
+}
 
 // with is the marks of both.
 func (m marks) with(o marks) marks {

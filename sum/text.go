@@ -7,6 +7,7 @@ import (
 
 	"tontine/api"
 	"tontine/exact"
+	"tontine/tally"
 	"tontine/whole"
 )
 
@@ -22,7 +23,7 @@ const (
 
 // Text is the text of the sum (4.3).
 func (a *Acc) Text() string {
-	r, _ := a.number.ratio() // with MaxTerms terms it is never too long
+	r, _ := a.number.Ratio() // with MaxTerms terms it is never too long
 	return strings.Join([]string{atCount: strconv.Itoa(a.count), atMarks: a.marks.text(), atNum: r.Num, atDen: r.Den}, " ")
 }
 
@@ -81,7 +82,7 @@ func readTwos(s string) (int, bool) {
 	}
 	den := whole.Parse(s)
 	twos := den.BitLen() - 1
-	return twos, twos == den.TrailingZeros() && twos <= places
+	return twos, twos == den.TrailingZeros() && twos <= tally.Places
 }
 
 // isOdd tells whether a whole number in digits is odd: whether it is in lowest terms with powers of two.
@@ -90,17 +91,12 @@ func isOdd(digits string) bool {
 }
 
 // readNumber is num by so many twos, or false, if that is more than so many terms can come to.
-func readNumber(num string, twos, count int) (number, bool) {
+func readNumber(num string, twos, count int) (tally.Number, bool) {
 	neg, digits := exact.CutSign(num)
 	if len(digits) > api.MaxDigits { // far more than MaxTerms terms can come to
-		return number{}, false
+		return tally.Number{}, false
 	}
-	size := whole.Parse(digits).ShiftLeft(places - twos)
-	most := whole.Of(uint64(count)).ShiftLeft(places + termBits)
-	if size.Cmp(most) > 0 {
-		return number{}, false
-	}
-	return ofSize(neg, size), true
+	return tally.OfSize(neg, whole.Parse(digits).ShiftLeft(tally.Places-twos), count)
 }
 
 // isMarkedRight tells whether the marks go with how many terms there are, and with the number: noughts alone have just one of the last two marks, or both; anything else has both.
@@ -108,7 +104,7 @@ func (a *Acc) isMarkedRight() bool {
 	switch {
 	case a.count == 0:
 		return a.marks == marks{}
-	case a.marks.areFinite() && a.number == number{}:
+	case a.marks.areFinite() && a.number == tally.Number{}:
 		return a.marks != marks{}
 	}
 	return a.marks[notMinus] && a.marks[notPlus]
