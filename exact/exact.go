@@ -9,20 +9,23 @@ import (
 // MostBits: 10 to the MaxDigits is below 2 to the MostBits, so what has more binary digits has too many decimal ones.
 const MostBits = api.MaxDigits*10/3 + 1
 
-// Read takes a right exact number apart: whether it is below nought, the size of Num, and Den; or it answers what is wrong with it, in the order of R1.
-func Read(a api.Ratio) (bool, whole.Nat, whole.Nat, api.Errno) {
+// fewBits: 2 to the fewBits is below 10 to the MaxDigits, so what has no more binary digits has not too many decimal ones.
+const fewBits = api.MaxDigits * 3
+
+// Read is the fraction of a right exact number; or it answers what is wrong with it, in the order of R1.
+func Read(a api.Ratio) (Fraction, api.Errno) {
 	if !IsWhole(a.Num) || !IsNatural(a.Den) || a.Den == "0" || a.Num == "0" && a.Den != "1" {
-		return false, whole.Nat{}, whole.Nat{}, api.ErrShape
+		return Fraction{}, api.ErrShape
 	}
 	neg, digits := CutSign(a.Num)
 	if len(digits) > api.MaxDigits || len(a.Den) > api.MaxDigits {
-		return false, whole.Nat{}, whole.Nat{}, api.ErrLong
+		return Fraction{}, api.ErrLong
 	}
 	num, den := whole.Parse(digits), whole.Parse(a.Den)
 	if !num.GCD(den).IsOne() {
-		return false, whole.Nat{}, whole.Nat{}, api.ErrShape
+		return Fraction{}, api.ErrShape
 	}
-	return neg, num, den, api.OK
+	return Fraction{neg, num, den}, api.OK
 }
 
 // Write is num by den, which are in lowest terms, below nought if neg (nought never is), unless that is too long (R2).
@@ -39,10 +42,7 @@ func Write(neg bool, num, den whole.Nat) (api.Ratio, api.Errno) {
 
 // WriteLowest is num by den, which may have a common divisor, below nought if neg, unless that is too long (R2).
 func WriteLowest(neg bool, num, den whole.Nat) (api.Ratio, api.Errno) {
-	common := num.GCD(den)
-	num, _ = num.DivMod(common)
-	den, _ = den.DivMod(common)
-	return Write(neg && !num.IsZero(), num, den)
+	return Lowest(neg, num, den).Ratio()
 }
 
 // WriteScaled is n times 2^exp, below nought if neg, unless that is too long (R2).

@@ -38,18 +38,18 @@ func TestRead(t *testing.T) {
 		{long, "1", api.ErrLong}, {"1", long, api.ErrLong}, {"10", long, api.ErrLong}, {long, "0", api.ErrShape}, {"0", long, api.ErrShape}, {long, "x", api.ErrShape},
 	} {
 		a := api.Ratio{Num: c.num, Den: c.den}
-		neg, num, den, e := Read(a)
+		f, e := Read(a)
 		if e != c.e {
 			t.Errorf("%d and %d digits: %v, want %v", len(c.num), len(c.den), e, c.e)
 			continue
 		}
 		if e != api.OK {
-			if neg || !num.IsZero() || !den.IsZero() {
+			if f.Neg || !f.Num.IsZero() || !f.Den.IsZero() {
 				t.Errorf("something beside %v", e)
 			}
 			continue
 		}
-		if b, e := Write(neg, num, den); b != a || e != api.OK {
+		if b, e := f.Ratio(); b != a || e != api.OK {
 			t.Errorf("%s/%s comes back as %s/%s, %v", a.Num, a.Den, b.Num, b.Den, e)
 		}
 	}

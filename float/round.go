@@ -39,14 +39,14 @@ func Round32(r api.Ratio, way int) (float32, api.Errno) {
 }
 
 func (f format) ofExact(r api.Ratio, way int) (uint64, api.Errno) {
-	neg, num, den, e := exact.Read(r)
+	n, e := exact.Read(r)
 	switch {
 	case e != api.OK:
 		return 0, e
 	case !exact.IsWay(way):
 		return 0, api.ErrRange
 	}
-	word, _ := f.round(ofQuotient(neg, num, den), way)
+	word, _ := f.round(ofQuotient(n.Neg, n.Num, n.Den), way)
 	return word, api.OK
 }
 

@@ -17,10 +17,10 @@ func Parse(s string) (api.Ratio, api.Errno) {
 	if e != api.OK {
 		return api.Ratio{}, e
 	}
-	return answer(f)
+	return f.Ratio()
 }
 
-func parseText(s string) (fraction, api.Errno) {
+func parseText(s string) (exact.Fraction, api.Errno) {
 	if above, below, ok := strings.Cut(s, "/"); ok {
 		return parseQuotient(above, below)
 	}
@@ -30,26 +30,26 @@ func parseText(s string) (fraction, api.Errno) {
 	return parseQuotient(s, "1")
 }
 
-func parseQuotient(above, below string) (fraction, api.Errno) {
+func parseQuotient(above, below string) (exact.Fraction, api.Errno) {
 	if !exact.IsWhole(above) || !exact.IsNatural(below) {
-		return fraction{}, api.ErrForm
+		return exact.Fraction{}, api.ErrForm
 	}
 	if below == "0" {
-		return fraction{}, api.ErrZero
+		return exact.Fraction{}, api.ErrZero
 	}
 	neg, digits := exact.CutSign(above)
-	return lowest(neg, whole.Parse(digits), whole.Parse(below)), api.OK
+	return exact.Lowest(neg, whole.Parse(digits), whole.Parse(below)), api.OK
 }
 
-func parseDecimal(above, behind string) (fraction, api.Errno) {
+func parseDecimal(above, behind string) (exact.Fraction, api.Errno) {
 	neg, digits := exact.CutSign(above)
 	if !exact.IsNatural(digits) || !exact.IsDigits(behind) {
-		return fraction{}, api.ErrForm
+		return exact.Fraction{}, api.ErrForm
 	}
 	behind = strings.TrimRight(behind, "0")
-	f := lowest(neg, whole.Parse(digits+behind), whole.Of(10).Pow(len(behind)))
-	if neg && f.num.IsZero() {
-		return fraction{}, api.ErrForm
+	f := exact.Lowest(neg, whole.Parse(digits+behind), whole.Of(10).Pow(len(behind)))
+	if neg && f.Num.IsZero() {
+		return exact.Fraction{}, api.ErrForm
 	}
 	return f, api.OK
 }

@@ -18,7 +18,7 @@ const (
 
 // Check is what is wrong with a, or OK (1.1).
 func Check(a api.Ratio) api.Errno {
-	_, e := read(a)
+	_, e := exact.Read(a)
 	return e
 }
 
@@ -27,24 +27,29 @@ func Of(p, q int) (api.Ratio, api.Errno) {
 	if q == 0 {
 		return api.Ratio{}, api.ErrZero
 	}
-	return answer(lowest((p < 0) != (q < 0), whole.Of(size(p)), whole.Of(size(q))))
+	return exact.OfInt(p).Times(exact.OfInt(q).Inverse()).Ratio()
 }
 
-// size is right of the least int too, whose size is no int.
-func size(n int) uint64 {
-	if n < 0 {
-		return -uint64(n)
+// readTwo is the fractions of both, or what is wrong with the first one that is not right.
+func readTwo(a, b api.Ratio) (exact.Fraction, exact.Fraction, api.Errno) {
+	f, e := exact.Read(a)
+	if e != api.OK {
+		return exact.Fraction{}, exact.Fraction{}, e
 	}
-	return uint64(n)
+	g, e := exact.Read(b)
+	if e != api.OK {
+		return exact.Fraction{}, exact.Fraction{}, e
+	}
+	return f, g, api.OK
 }
 
 // Neg is -a (1.2).
 func Neg(a api.Ratio) (api.Ratio, api.Errno) {
-	f, e := read(a)
+	f, e := exact.Read(a)
 	if e != api.OK {
 		return api.Ratio{}, e
 	}
-	return answer(f.negated())
+	return f.Negated().Ratio()
 }
 
 // Add is a + b (1.2).
@@ -53,7 +58,7 @@ func Add(a, b api.Ratio) (api.Ratio, api.Errno) {
 	if e != api.OK {
 		return api.Ratio{}, e
 	}
-	return answer(plus(f, g))
+	return f.Plus(g).Ratio()
 }
 
 // Sub is a - b (1.2).
@@ -62,7 +67,7 @@ func Sub(a, b api.Ratio) (api.Ratio, api.Errno) {
 	if e != api.OK {
 		return api.Ratio{}, e
 	}
-	return answer(plus(f, g.negated()))
+	return f.Plus(g.Negated()).Ratio()
 }
 
 // Mul is a times b (1.2).
@@ -71,7 +76,7 @@ func Mul(a, b api.Ratio) (api.Ratio, api.Errno) {
 	if e != api.OK {
 		return api.Ratio{}, e
 	}
-	return answer(times(f, g))
+	return f.Times(g).Ratio()
 }
 
 // Div is a by b (1.2).
@@ -80,29 +85,29 @@ func Div(a, b api.Ratio) (api.Ratio, api.Errno) {
 	if e != api.OK {
 		return api.Ratio{}, e
 	}
-	if g.num.IsZero() {
+	if g.Num.IsZero() {
 		return api.Ratio{}, api.ErrZero
 	}
-	return answer(times(f, g.inverse()))
+	return f.Times(g.Inverse()).Ratio()
 }
 
 // Pow is a to the n (1.3).
 func Pow(a api.Ratio, n int) (api.Ratio, api.Errno) {
-	f, e := read(a)
+	f, e := exact.Read(a)
 	switch {
 	case e != api.OK:
 		return api.Ratio{}, e
 	case n < -MaxPower || n > MaxPower:
 		return api.Ratio{}, api.ErrRange
-	case f.num.IsZero() && n < 0:
+	case f.Num.IsZero() && n < 0:
 		return api.Ratio{}, api.ErrZero
 	case n < 0:
-		f, n = f.inverse(), -n
+		f, n = f.Inverse(), -n
 	}
-	if powerIsLong(f.num, n) || powerIsLong(f.den, n) {
+	if powerIsLong(f.Num, n) || powerIsLong(f.Den, n) {
 		return api.Ratio{}, api.ErrLong
 	}
-	return answer(fraction{f.neg && n%2 == 1, f.num.Pow(n), f.den.Pow(n)})
+	return exact.Write(f.Neg && n%2 == 1, f.Num.Pow(n), f.Den.Pow(n))
 }
 
 // powerIsLong spares the work on powers that are far too long: x is not below 2 to the BitLen - 1.
@@ -116,16 +121,16 @@ func Cmp(a, b api.Ratio) (int, api.Errno) {
 	if e != api.OK {
 		return 0, e
 	}
-	return compare(f, g), api.OK
+	return f.Cmp(g), api.OK
 }
 
 // Sign is -1, 0 or 1: a is below nought, is nought, is above nought (1.2).
 func Sign(a api.Ratio) (int, api.Errno) {
-	f, e := read(a)
+	f, e := exact.Read(a)
 	if e != api.OK {
 		return 0, e
 	}
-	return f.sign(), api.OK
+	return f.Sign(), api.OK
 }
 
 // Text is Num, or Num, / and Den (1.5).

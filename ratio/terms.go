@@ -8,13 +8,13 @@ import (
 
 // Terms is the continued fraction of a (1.6).
 func Terms(a api.Ratio) ([]string, api.Errno) {
-	f, e := read(a)
+	f, e := exact.Read(a)
 	if e != api.OK {
 		return nil, e
 	}
-	first, rest := floor(f)
-	terms := []string{exact.WithSign(first.neg, first.num.Text())}
-	x, y := rest.den, rest.num
+	first, rest := f.Floor()
+	terms := []string{exact.WithSign(first.Neg, first.Num.Text())}
+	x, y := rest.Den, rest.Num
 	for !y.IsZero() {
 		if len(terms) == api.MaxItems {
 			return nil, api.ErrLong
@@ -40,7 +40,7 @@ func FromTerms(l []string) (api.Ratio, api.Errno) {
 	if !ok || len(digits) > api.MaxDigits+1 {
 		return api.Ratio{}, api.ErrLong
 	}
-	return answer(plus(wholeFraction(neg, whole.Parse(digits)), rest))
+	return exact.OfWhole(neg, whole.Parse(digits)).Plus(rest).Ratio()
 }
 
 func areTerms(l []string) bool {
@@ -53,15 +53,15 @@ func areTerms(l []string) bool {
 }
 
 // belowOne is what the terms behind the first one come to: above nought, and 1 at most; nought of none. It gives up as soon as the denominator is too long, since that never falls again, and is not below any term.
-func belowOne(terms []string) (fraction, bool) {
+func belowOne(terms []string) (exact.Fraction, bool) {
 	c := newConvergent().next(whole.Nat{})
 	for _, s := range terms {
 		if len(s) > api.MaxDigits {
-			return fraction{}, false
+			return exact.Fraction{}, false
 		}
 		c = c.next(whole.Parse(s))
 		if c.den.BitLen() > exact.MostBits {
-			return fraction{}, false
+			return exact.Fraction{}, false
 		}
 	}
 	return c.fraction(), true
@@ -87,6 +87,6 @@ func (c convergent) next(term whole.Nat) convergent {
 }
 
 // fraction is always in lowest terms: num denAgo - den numAgo is 1 or -1.
-func (c convergent) fraction() fraction {
-	return fraction{false, c.num, c.den}
+func (c convergent) fraction() exact.Fraction {
+	return exact.Fraction{Num: c.num, Den: c.den}
 }
