@@ -120,6 +120,14 @@ func (f Fraction) Times(g Fraction) Fraction {
 	return Fraction{f.Neg != g.Neg && !num.IsZero(), num, den}
 }
 
+// Power is f to the n, in lowest terms if f is; f is not nought, or n is not below 0.
+func (f Fraction) Power(n int) Fraction {
+	if n < 0 {
+		f, n = f.Inverse(), -n
+	}
+	return Fraction{f.Neg && n%2 == 1, f.Num.Pow(n), f.Den.Pow(n)}
+}
+
 // Floor is the greatest whole number that is not above f, and what is left of f, from nought to below 1.
 func (f Fraction) Floor() (Fraction, Fraction) {
 	n, rest := f.Num.DivMod(f.Den)

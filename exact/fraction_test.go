@@ -43,6 +43,14 @@ func TestReckoning(t *testing.T) {
 		if x.Sign() != 0 {
 			same(t, "inverse", told(f.Inverse()), new(big.Rat).Inv(x).String())
 		}
+		power := big.NewRat(1, 1)
+		for n := range 5 {
+			same(t, "power", told(f.Power(n)), power.String())
+			if x.Sign() != 0 {
+				same(t, "power", told(f.Power(-n)), new(big.Rat).Inv(power).String())
+			}
+			power.Mul(power, x)
+		}
 		for _, y := range small() {
 			g := ofBig(y)
 			same(t, "plus", told(f.Plus(g)), new(big.Rat).Add(x, y).String())

@@ -107,7 +107,7 @@ func Pow(a api.Ratio, n int) (api.Ratio, api.Errno) {
 	if powerIsLong(f.Num, n) || powerIsLong(f.Den, n) {
 		return api.Ratio{}, api.ErrLong
 	}
-	return exact.Write(f.Neg && n%2 == 1, f.Num.Pow(n), f.Den.Pow(n))
+	return f.Power(n).Ratio()
 }
 
 // powerIsLong spares the work on powers that are far too long: x is not below 2 to the BitLen - 1.
