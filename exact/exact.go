@@ -28,6 +28,22 @@ func Read(a api.Ratio) (Fraction, api.Errno) {
 	return Fraction{neg, num, den}, api.OK
 }
 
+// ReadAll is the fractions of a list, or what is wrong with it: ErrLong, if it has more than most members, or the first error of an exact number.
+func ReadAll(l []api.Ratio, most int) ([]Fraction, api.Errno) {
+	if len(l) > most {
+		return nil, api.ErrLong
+	}
+	fractions := make([]Fraction, len(l))
+	for i := range len(l) {
+		f, e := Read(l[i])
+		if e != api.OK {
+			return nil, e
+		}
+		fractions[i] = f
+	}
+	return fractions, api.OK
+}
+
 // Write is num by den, which are in lowest terms, below nought if neg (nought never is), unless that is too long (R2).
 func Write(neg bool, num, den whole.Nat) (api.Ratio, api.Errno) {
 	if num.BitLen() > MostBits || den.BitLen() > MostBits {

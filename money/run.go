@@ -7,7 +7,7 @@ import (
 
 // Cascade is a run of amounts whose sums are the exact sums, rounded (6.3).
 func Cascade(l []api.Ratio, way int) ([]int, api.Errno) {
-	parts, e := readAll(l)
+	parts, e := exact.ReadAll(l, api.MaxItems)
 	if e != api.OK {
 		return nil, e
 	}

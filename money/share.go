@@ -13,7 +13,7 @@ func Share(total int, weights []api.Ratio) ([]int, api.Errno) {
 	if !isAmount(total) {
 		return nil, api.ErrMoney
 	}
-	l, e := readAll(weights)
+	l, e := exact.ReadAll(weights, api.MaxItems)
 	if e != api.OK {
 		return nil, e
 	}

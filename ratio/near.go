@@ -15,35 +15,7 @@ func Between(a, b api.Ratio) (api.Ratio, api.Errno) {
 	if low.Cmp(high) > 0 {
 		return api.Ratio{}, api.ErrRange
 	}
-	return simplest(low, high).Ratio()
-}
-
-// simplest is the simplest fraction from low to high, which need not be in lowest terms.
-func simplest(low, high exact.Fraction) exact.Fraction {
-	if low.Sign() <= 0 && high.Sign() >= 0 {
-		return exact.OfWhole(false, whole.Nat{})
-	}
-	if high.Neg {
-		return simplestAbove(high.Negated(), low.Negated()).Negated()
-	}
-	return simplestAbove(low, high)
-}
-
-// simplestAbove is that of two that are above nought. Where no whole number lies between them, their continued fractions begin with the same term; the simplest one begins with it too, and goes on with the simplest one between 1 by what is left of both.
-func simplestAbove(low, high exact.Fraction) exact.Fraction {
-	c := newConvergent()
-	for {
-		term, rest := low.Num.DivMod(low.Den)
-		if rest.IsZero() {
-			return c.next(term).fraction()
-		}
-		product := term.Mul(high.Den)
-		if product.Add(high.Den).Cmp(high.Num) <= 0 {
-			return c.next(term.Add(whole.Of(1))).fraction()
-		}
-		c = c.next(term)
-		low, high = exact.Fraction{Num: high.Den, Den: high.Num.Sub(product)}, exact.Fraction{Num: low.Den, Den: rest}
-	}
+	return exact.Simplest(low, high).Ratio()
 }
 
 // Near is the fraction nearest to a whose denominator is at most most (1.8).

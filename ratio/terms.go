@@ -54,39 +54,15 @@ func areTerms(l []string) bool {
 
 // belowOne is what the terms behind the first one come to: above nought, and 1 at most; nought of none. It gives up as soon as the denominator is too long, since that never falls again, and is not below any term.
 func belowOne(terms []string) (exact.Fraction, bool) {
-	c := newConvergent().next(whole.Nat{})
+	c := exact.NewConvergent().Next(whole.Nat{})
 	for _, s := range terms {
 		if len(s) > api.MaxDigits {
 			return exact.Fraction{}, false
 		}
-		c = c.next(whole.Parse(s))
-		if c.den.BitLen() > exact.MostBits {
+		c = c.Next(whole.Parse(s))
+		if c.Den.BitLen() > exact.MostBits {
 			return exact.Fraction{}, false
 		}
 	}
-	return c.fraction(), true
-}
-
-// convergent is what the first terms of a continued fraction come to, and beside it (numAgo, denAgo) what came of one term less.
-type convergent struct {
-	num, den, numAgo, denAgo whole.Nat
-}
-
-// newConvergent is that of no term.
-func newConvergent() convergent {
-	return convergent{num: whole.Of(1), denAgo: whole.Of(1)}
-}
-
-func (c convergent) next(term whole.Nat) convergent {
-	return convergent{
-		num:    term.Mul(c.num).Add(c.numAgo),
-		den:    term.Mul(c.den).Add(c.denAgo),
-		numAgo: c.num,
-		denAgo: c.den,
-	}
-}
-
-// fraction is always in lowest terms: num denAgo - den numAgo is 1 or -1.
-func (c convergent) fraction() exact.Fraction {
-	return exact.Fraction{Num: c.num, Den: c.den}
+	return c.Fraction(), true
 }
