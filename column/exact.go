@@ -2,13 +2,14 @@ package column
 
 import (
 	"tontine/api"
+	"tontine/coming"
 	"tontine/exact"
 	"tontine/whole"
 )
 
 // Exact is a line of the exact columns (12.1).
 func Exact(b api.Basis, l api.Life, n int) (api.Column, api.Errno) {
-	rates, e := coming(b, l)
+	rates, e := coming.Rates(b, l)
 	switch {
 	case e != api.OK:
 		return api.Column{}, e

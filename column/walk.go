@@ -1,6 +1,9 @@
 package column
 
-import "tontine/api"
+import (
+	"tontine/api"
+	"tontine/reckon"
+)
 
 // columns are the six columns of one kind of numbers, from the time 0 on.
 type columns[T any] struct {
@@ -8,18 +11,18 @@ type columns[T any] struct {
 }
 
 // discounted is the columns of a life with these rates, of which alive live 0, 1, 2 .. years more, at a yearly rate of interest.
-func discounted[T any](k numbers[T], interest int, rates []int, alive []T) columns[T] {
+func discounted[T any](k reckon.Numbers[T], interest int, rates []int, alive []T) columns[T] {
 	last := len(rates)
 	d, c := make([]T, last+1), make([]T, last+1) // the last one of c stays nought
-	v, power := k.of(api.Unit, api.Unit+interest), k.of(1, 1)
+	v, power := k.Of(api.Unit, api.Unit+interest), k.Of(1, 1)
 	for n := range last {
-		q := k.of(rates[n], api.Unit)
-		d[n] = k.times(alive[n], power)
-		power = k.times(power, v)
-		c[n] = k.times(k.times(alive[n], q), power)
+		q := k.Of(rates[n], api.Unit)
+		d[n] = k.Times(alive[n], power)
+		power = k.Times(power, v)
+		c[n] = k.Times(k.Times(alive[n], q), power)
 	}
-	d[last] = k.times(alive[last], power)
-	return summed(d, c, k.plus)
+	d[last] = k.Times(alive[last], power)
+	return summed(d, c, k.Plus)
 }
 
 // summed is all columns, of those that are not sums.

@@ -1,6 +1,9 @@
 package column
 
-import "tontine/api"
+import (
+	"tontine/api"
+	"tontine/reckon"
+)
 
 // mayBe tells whether a benefit may be here: its kinds are numbered without a gap.
 func mayBe(f api.Benefit) bool {
@@ -9,9 +12,9 @@ func mayBe(f api.Benefit) bool {
 }
 
 // worth is what a benefit that may be here is worth by columns, each operation as the chapter's table has it.
-func worth[T any](k numbers[T], c columns[T], f api.Benefit) T {
-	wait, term, end := f.Wait, k.of(f.Term, 1), f.Wait+f.Term
-	between := func(column []T, from, to int) T { return k.minus(at(column, from), at(column, to)) }
+func worth[T any](k reckon.Numbers[T], c columns[T], f api.Benefit) T {
+	wait, term, end := f.Wait, k.Of(f.Term, 1), f.Wait+f.Term
+	between := func(column []T, from, to int) T { return k.Minus(at(column, from), at(column, to)) }
 	var value T
 	switch f.Kind {
 	case api.BDue:
@@ -23,13 +26,13 @@ func worth[T any](k numbers[T], c columns[T], f api.Benefit) T {
 	case api.BEndow:
 		value = at(c.d, end)
 	case api.BBoth:
-		value = k.plus(between(c.m, wait, end), at(c.d, end))
+		value = k.Plus(between(c.m, wait, end), at(c.d, end))
 	case api.BRising:
-		value = k.minus(between(c.r, wait, end), k.times(term, at(c.m, end)))
+		value = k.Minus(between(c.r, wait, end), k.Times(term, at(c.m, end)))
 	case api.BFalling:
-		value = k.minus(k.times(term, at(c.m, wait)), between(c.r, wait+1, end+1))
+		value = k.Minus(k.Times(term, at(c.m, wait)), between(c.r, wait+1, end+1))
 	}
-	return k.by(value, c.d[0])
+	return k.By(value, c.d[0])
 }
 
 // at is a column's line, or nought behind its last one.
