@@ -61,6 +61,19 @@ func WriteLowest(neg bool, num, den whole.Nat) (api.Ratio, api.Errno) {
 	return Lowest(neg, num, den).Ratio()
 }
 
+// WriteParts is all parts by the same number, unless one of them is too long (R2).
+func WriteParts(parts []whole.Nat, by whole.Nat) ([]api.Ratio, api.Errno) {
+	l := make([]api.Ratio, len(parts))
+	for k, part := range parts {
+		r, e := WriteLowest(false, part, by)
+		if e != api.OK {
+			return nil, e
+		}
+		l[k] = r
+	}
+	return l, api.OK
+}
+
 // WriteScaled is n times 2^exp, below nought if neg, unless that is too long (R2).
 func WriteScaled(neg bool, n whole.Nat, exp int) (api.Ratio, api.Errno) {
 	one := whole.Of(1)

@@ -1,6 +1,7 @@
 package exact
 
 import (
+	"slices"
 	"strings"
 	"testing"
 
@@ -90,6 +91,25 @@ func TestWriteLowest(t *testing.T) {
 	}
 	if a, e := WriteLowest(false, long, long.Mul(whole.Of(3))); e != api.OK || a != (api.Ratio{Num: "1", Den: "3"}) {
 		t.Errorf("long, but for what is common: %v, %v", a, e)
+	}
+}
+
+// All parts are written by the same number, each in lowest terms; if one is too long, none is.
+func TestWriteParts(t *testing.T) {
+	parts := []whole.Nat{whole.Of(6), {}, whole.Of(7), whole.Of(4)}
+	wanted := []api.Ratio{{Num: "3", Den: "2"}, {Num: "0", Den: "1"}, {Num: "7", Den: "4"}, {Num: "1", Den: "1"}}
+	if l, e := WriteParts(parts, whole.Of(4)); !slices.Equal(l, wanted) || e != api.OK {
+		t.Errorf("%v, %v", l, e)
+	}
+	if l, e := WriteParts(nil, whole.Of(4)); len(l) != 0 || e != api.OK {
+		t.Errorf("no parts: %v, %v", l, e)
+	}
+	for at := range parts {
+		long := slices.Clone(parts)
+		long[at] = whole.Of(10).Pow(api.MaxDigits)
+		if l, e := WriteParts(long, whole.Of(3)); l != nil || e != api.ErrLong {
+			t.Errorf("a long part at %d: %d parts, %v", at, len(l), e)
+		}
 	}
 }
 

@@ -3,7 +3,6 @@ package joint
 import (
 	"tontine/api"
 	"tontine/exact"
-	"tontine/whole"
 )
 
 // Alive is the chances that of a party just 0, 1, 2 .. live so many years (14.2).
@@ -12,7 +11,7 @@ func Alive(t api.Table, party []api.Life, years int) ([]api.Ratio, api.Errno) {
 	if e != api.OK {
 		return nil, e
 	}
-	return writeAll(g.numbers(), g.by())
+	return exact.WriteParts(g.numbers(), g.by())
 }
 
 // Least is the chance that many of a party live so many years, or more (14.2).
@@ -33,7 +32,7 @@ func Sums(t api.Table, party []api.Life, years int) ([]api.Ratio, api.Errno) {
 	if e != api.OK {
 		return nil, e
 	}
-	return writeAll(g.sums(), g.by())
+	return exact.WriteParts(g.sums(), g.by())
 }
 
 // after is a party when so many years have gone by; or what is wrong.
@@ -46,17 +45,4 @@ func after(t api.Table, party []api.Life, years int) (group, api.Errno) {
 		return group{}, api.ErrRange
 	}
 	return groups(rates, years)[years], api.OK
-}
-
-// writeAll is all parts by the same number, unless one of them is too long (R2).
-func writeAll(parts []whole.Nat, by whole.Nat) ([]api.Ratio, api.Errno) {
-	l := make([]api.Ratio, len(parts))
-	for k, part := range parts {
-		r, e := exact.WriteLowest(false, part, by)
-		if e != api.OK {
-			return nil, e
-		}
-		l[k] = r
-	}
-	return l, api.OK
 }
